@@ -82,11 +82,7 @@ class Grower:
             label = luck.choice(LABELS)
             return (kind, label, self.rows(around + [(kind, label)], calls, depth - 1))
         if kind == "try":
-            first = self.rows(around, calls, depth - 1)
-            catches = []
-            for _ in range(luck.choice([0, 1, 1, 2])):
-                catches.append((tuple(some_of(luck, ERRORS)), self.rows(around, calls, depth - 1)))
-            return ("try", first, tuple(catches), self.rows(around, calls, depth - 1))
+            return self.attempt(around, calls, depth - 1)
         if kind == "leave":
             return ("leave", luck.choice(around)[1])
         if kind == "again":
@@ -94,6 +90,20 @@ class Grower:
         if kind == "call":
             return ("call", luck.choice(calls))
         return (kind, luck.choice(ERRORS if kind == "raise" else WORDS))
+
+
+    def attempt(self, around, calls, depth):
+        """A try whose rows and whose always often lead out of it."""
+        luck = self.luck
+        jumps = [("raise", luck.choice(ERRORS)), ("stop", luck.choice(WORDS))]
+        jumps += [("leave", label) for kind, label in around]
+        jumps += [("again", label) for kind, label in around if kind == "loop"]
+        first = self.rows(around, calls, depth) + ((luck.choice(jumps),) if luck.random() < 0.5 else ())
+        catches = []
+        for _ in range(luck.choice([0, 0, 1, 1, 2])):
+            catches.append((tuple(some_of(luck, ERRORS)), self.rows(around, calls, depth)))
+        always = self.rows(around, calls, depth) + ((luck.choice(jumps),) if luck.random() < 0.4 else ())
+        return ("try", first, tuple(catches), always)
 
 
 def random_program(luck, sheet, size=20, depth=5):
