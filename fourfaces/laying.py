@@ -16,11 +16,11 @@ class Layout:
         key, self._first = flow.follow(("begin", (), "", (), 0, ()))
         self._keys, self._goals, self._lost, self._number = [key], [], [], {key: 0}
         while len(self._goals) < len(self._keys):
-            self._lay(flow, self._keys[len(self._goals)])
+            self._add_goals(flow, self._keys[len(self._goals)])
         self._program = program
 
-    def _lay(self, flow, key):
-        """Lays out the goals of the next point."""
+    def _add_goals(self, flow, key):
+        """Adds the goals of the next point, and those of them that are met first."""
         tasks = flow.tasks(key[1]) if key[0] == "at" else []
         ends = [flow.follow(task) for task in tasks]
         for goal, _ in ends:

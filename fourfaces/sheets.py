@@ -49,9 +49,10 @@ def check_once(rows):
 
 def check_cells(rows, cells):
     """Raises NoCell for the first cell of a row that is none of the cells."""
+    there = {cell: True for cell in cells}
     for row in rows:
         for cell in row[1]:
-            if cell not in cells:
+            if cell not in there:
                 raise NoCell(cell)
 
 

@@ -60,20 +60,19 @@ def reached(machine):
     return sorted(Search(machine).order())
 
 
-def shown_ends(machine):
-    """The list of the moves, but for steps, in the situations that are reached."""
-    moves = [machine.move(point, answers) for point, answers in reached(machine)]
-    return [move for move in moves if move[0] != "do"]
+def moves_reached(machine):
+    """The list of the moves in the situations that are reached."""
+    return [machine.move(point, answers) for point, answers in reached(machine)]
 
 
 def exits(machine):
     """The ascending list of the exits that a machine shows by some trace."""
-    return sorted(set([move[1] for move in shown_ends(machine) if move[0] == "out"]))
+    return sorted(set([move[1] for move in moves_reached(machine) if move[0] == "out"]))
 
 
 def can_never(machine):
     """Whether a machine goes round without a step, by some trace."""
-    return ("never",) in shown_ends(machine)
+    return ("never",) in moves_reached(machine)
 
 
 def exit_trace(machine, told):

@@ -136,6 +136,21 @@ class Answers(unittest.TestCase):
         ahead = [((True, False), None), ((True, True), None)]
         self.assertIs(is_out_list(sheet, ahead + [(free[1], "t"), (free[0], "s")]), True)
         self.assertIs(is_out_list(sheet, ahead + [(free[0], "s"), (free[1], "t")]), False)
+        self.assertEqual(out_list(sheet)[2:], [(free[1], "t"), (free[0], "s")])
+        # and the same with the answers the other way round
+        facts = [("never", (("p", True),)), ("after", "s", "o", "q", False), ("after", "t", "o", "q", True)]
+        sheet = Sheet(["c", "d"], [("p", ["c"]), ("q", ["d"])], [("s", ["d"], ["o"]), ("t", [], ["o"])], facts)
+        self.assertEqual(out_list(sheet)[2:], [(free[0], "t"), (free[1], "s")])
+
+    def test_a_long_fall(self):
+        # (F, F, F) leads by s to (F, F, T) alone, that to (F, T, F), that to (F, T, T), where t cannot be done
+        asks = [("p", ["c"]), ("q", ["d"]), ("r", ["e"])]
+        for truth in (True, False):
+            facts = [("never", (("p", True),)), ("after", "t", "o", "r", not truth), ("after", "s", "a", "r", truth),
+                     ("after", "u", "o", "q", truth)]
+            sheet = Sheet(["c", "d", "e"], asks, [("s", ["e"], ["a"]), ("t", [], ["o"]), ("u", ["d"], ["o"])], facts)
+            self.assertEqual(can_be(sheet), [])
+            self.assertIs(is_out_list(sheet, out_list(sheet)), True)
 
 
 class Implied(unittest.TestCase):

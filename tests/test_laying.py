@@ -94,6 +94,14 @@ class Rows(unittest.TestCase):
         nested = ("loop", "l", (U, ("loop", "l", (("if", "p", (("leave", "l"),), (("again", "l"),)),)), W))
         self.assertEqual(laid(nested), [("mark", "u", 1), ("ask", "p", 2, 1), ("mark", "w", 0)])
 
+    def test_labels_with_the_names_of_asks_and_steps(self):
+        self.assertEqual(laid(("loop", "p", (("if", "p", (("leave", "p"),), ()), U)), W),
+                         [("ask", "p", 1, 2), ("mark", "w", 3), ("mark", "u", 0), END])
+        self.assertEqual(laid(("block", "s", (("do", "s", (("bad", (("leave", "s"),)),)), U)), W),
+                         [("do", "s", (("bad", 1), ("ok", 2))), ("mark", "w", 3), ("mark", "u", 1), END])
+        self.assertEqual(laid(("loop", "t", (U, ("do", "t", (("o", (("again", "t"),)),)), V))),
+                         [("mark", "u", 1), ("do", "t", (("o", 0),))])
+
     def test_again_of_an_outer_loop(self):
         rows = ("loop", "k", (U, ("loop", "l", (("if", "p", (("again", "k"),), (("leave", "k"),)),))))
         self.assertEqual(laid(rows), [("mark", "u", 1), ("ask", "p", 0, 2), END])

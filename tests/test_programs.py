@@ -107,6 +107,15 @@ class WrongThings(unittest.TestCase):
             self.assertEqual(raised(Program, SHEET, (row,)), (Unknown, {"address": ("", path)}))
         self.assertEqual(raised(Program, SHEET, (("loop", "l", ()), ("leave", "l"))), (Unknown, {"address": ("", (1,))}))
 
+    def test_an_ask_or_a_step_is_no_label(self):
+        for kind in ("leave", "again"):
+            told = raised(Program, SHEET, (("if", "p", ((kind, "p"),), ()),))
+            self.assertEqual(told, (Unknown, {"address": ("", (0, 0, 0))}))
+            told = raised(Program, SHEET, (("do", "s", (("ok", ((kind, "s"),)),)),))
+            self.assertEqual(told, (Unknown, {"address": ("", (0, 0, 0))}))
+            told = raised(Program, SHEET, (("loop", "l", (("mark", "p"), ("if", "p", (), ((kind, "p"),)))),))
+            self.assertEqual(told, (Unknown, {"address": ("", (0, 0, 1, 1, 0))}))
+
     def test_labels_do_not_lead_out_of_a_procedure(self):
         told = raised(Program, SHEET, (("loop", "l", (("call", "n"),)),), {"n": (("leave", "l"),)})
         self.assertEqual(told, (Unknown, {"address": ("n", (0,))}))

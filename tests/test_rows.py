@@ -319,6 +319,25 @@ class Names(unittest.TestCase):
         self.assertEqual(renamed((CALL,), "call", {"n": "i"}), (("call", "i"),))
         self.assertEqual(renamed((("do", "s", (("s", (CALL,)),)),), "step", {"s": "t"}), (("do", "t", (("s", (CALL,)),)),))
 
+    def test_one_name_of_all_kinds(self):
+        rows = (("do", "a", (("a", (("mark", "a"),)),)), ("if", "a", (), (("stop", "a"),)), ("call", "a"),
+                ("loop", "a", (("leave", "a"), ("block", "a", (("again", "a"),)))),
+                ("try", (("raise", "a"),), ((("a", "b"), ()),), ()))
+        told = {
+            "step": (("do", "z", rows[0][2]),) + rows[1:],
+            "outcome": (("do", "a", (("z", (("mark", "a"),)),)),) + rows[1:],
+            "ask": (rows[0], ("if", "z", (), (("stop", "a"),))) + rows[2:],
+            "mark": (("do", "a", (("a", (("mark", "z"),)),)),) + rows[1:],
+            "label": rows[:3] + (("loop", "z", (("leave", "z"), ("block", "z", (("again", "z"),)))), rows[4]),
+            "error": rows[:4] + (("try", (("raise", "z"),), ((("b", "z"), ()),), ()),),
+            "stop": (rows[0], ("if", "a", (), (("stop", "z"),))) + rows[2:],
+            "call": rows[:2] + (("call", "z"),) + rows[3:],
+        }
+        for kind, turned in told.items():
+            with self.subTest(kind):
+                self.assertEqual(renamed(rows, kind, {"a": "z"}), turned)
+                self.assertEqual(names_in(turned, kind), ["b", "z"] if kind == "error" else ["z"])
+
     def test_outcomes_are_put_in_order_again(self):
         self.assertEqual(renamed((DO,), "outcome", {"a": "z"}), (("do", "s", (("b", ()), ("c", (STOP, MARK)), ("z", (MARK,)))),))
         self.assertEqual(renamed((DO,), "outcome", {"a": "c", "c": "a"}),

@@ -240,26 +240,26 @@ class Changed(unittest.TestCase):
             self.assertIs(fields["fact"], thing)
 
     def test_renamed_cells(self):
-        other = self.sheet.renamed("cell", {"c": "z", "p": "y", "s": "y"})
+        other = self.sheet.renamed("cell", {"c": "z", "p": "y", "s": "y", "bad": "y", "ok": "x"})
         self.assertEqual([other.cells(), other.asks(), other.steps(), other.facts()],
                          [["d", "z"], [("p", ("z",)), ("q", ("d",))],
                           [("s", ("z",), ("bad", "ok")), ("t", (), ("ok",))], FACTS])
 
     def test_renamed_asks(self):
-        other = self.sheet.renamed("ask", {"p": "z", "c": "y", "s": "y"})
+        other = self.sheet.renamed("ask", {"p": "z", "c": "y", "s": "y", "bad": "y", "ok": "x"})
         facts = [("after", "s", "bad", "z", True), ("never", (("q", False), ("z", True)))]
         self.assertEqual([other.names(), other.asks(), other.facts()],
                          [["q", "z"], [("q", ("d",)), ("z", ("c",))], facts])
         self.assertEqual([other.cells(), other.steps()], [self.sheet.cells(), self.sheet.steps()])
 
     def test_renamed_steps(self):
-        other = self.sheet.renamed("step", {"s": "z", "ok": "y", "p": "y"})
+        other = self.sheet.renamed("step", {"s": "z", "ok": "y", "p": "y", "bad": "x", "c": "y"})
         self.assertEqual(other.steps(), [("t", (), ("ok",)), ("z", ("c",), ("bad", "ok"))])
         self.assertEqual(other.facts(), [("after", "z", "bad", "p", True), FACTS[1]])
         self.assertEqual([other.cells(), other.asks()], [self.sheet.cells(), self.sheet.asks()])
 
     def test_renamed_outcomes_of_all_steps(self):
-        other = self.sheet.renamed("outcome", {"ok": "a", "bad": "z", "s": "y"})
+        other = self.sheet.renamed("outcome", {"ok": "a", "bad": "z", "s": "y", "p": "y", "c": "y"})
         self.assertEqual(other.steps(), [("s", ("c",), ("a", "z")), ("t", (), ("a",))])
         self.assertEqual(other.facts(), [("after", "s", "z", "p", True), FACTS[1]])
 

@@ -129,7 +129,8 @@ class Made(unittest.TestCase):
         states = [(NO, STEP, (("bad", NO, 0), ("ok", NO, 1))), (NO, END, ())]
         self.assertEqual(len(Table(sheet, [(NO, 0)], states)), 2)
         states[0] = (NO, STEP, (("bad", NO, 0), ("bad", YES, 2), ("ok", NO, 1)))
-        self.assertEqual(raised(Table, sheet, [(NO, 0)], states + [(YES, END, ())]), (Wrong, {"place": 2}))
+        for more in [(YES, END, ()), (YES, STEP, ()), (YES, STEP, states[0][2])]:
+            self.assertEqual(raised(Table, sheet, [(NO, 0)], states + [more]), (Wrong, {"place": 2}))
 
     def test_wrong_states(self):
         rest = STATES[1:]

@@ -43,7 +43,9 @@ class Words(unittest.TestCase):
                  ["never", (("p", True),)], ("never", (("p", True),), ()), ("Never", (("p", True),)),
                  ("never", (("P", True),)), ("never", (("p", True, True),)), ("never", (("p",),)), ("never", ((),)),
                  ("never", (("p", None),)), ("never", None), ("never", "p"), ("never", (("", True),)),
-                 ("never", (("p", False), ("r", True), ("q", True)))]
+                 ("never", (("p", False), ("r", True), ("q", True))), ("never", (("p", True), ("q", 1))),
+                 ("never", (("p", 0), ("q", True))), ("never", (("p", True), ("q", True), ["r", True])),
+                 ("never", (("p", True), ("Q", True))), ("never", (("p", True), None))]
         self.check(is_fact, right, wrong)
 
     def test_after_facts(self):
