@@ -1,0 +1,82 @@
+"""The names, arguments and places of the interface, as far as it is asked for so far."""
+
+import importlib
+import inspect
+import unittest
+
+FUNCTIONS = {
+    "words": "is_integer(thing) is_truth(thing) is_name(thing) are_names(thing) is_fact(thing) is_way(thing) is_exit(thing)",
+    "rows": "is_row(thing) are_rows(thing) bodies(row) with_bodies(row,some) how_many(rows) depth(rows) paths(rows) "
+            "row_at(rows,path) put(rows,path,row) out(rows,path) changed(rows,path,some) names_in(rows,kind) "
+            "renamed(rows,kind,names)",
+    "answers": "are_answers(sheet,thing) is_forbidden(sheet,answers) is_out_list(sheet,thing) all_answers(sheet) "
+               "lets(sheet,answers,step,outcome) can_be(sheet) behind(sheet,answers,step,outcome) out_list(sheet) "
+               "idle_facts(sheet) implied(sheet,pairs)",
+    "worlds": "whole_world(sheet) trace_world(sheet,trace) is_trace(sheet,thing)",
+    "laying": "machine_of(program) places_of(program) points_of(program,address)",
+    "ways": "reached(machine) exits(machine) losses(program) idle_rows(program) known_asks(program) can_never(machine) "
+            "exit_trace(machine,told) never_trace(machine) loss_trace(program,loss) lost_behind(program,trace)",
+    "alike": "pairs(one,other) are_pairs(one,other,thing) show_same(one,other) is_parting(one,other,thing) "
+             "parting(one,other) alike_points(one,point,other,answers)",
+    "tables": "table_of(machine) is_table_of(machine,thing) machine_from(table) least_traces(table)",
+}
+CLASSES = {
+    "sheets.Sheet": "__init__(cells,asks,steps,facts=()) __eq__(other) cells() names() asks() steps() facts() looks(name) "
+                    "puts(name) outcomes(name) leaves(name) with_fact(fact) without_fact(fact) renamed(kind,names)",
+    "worlds.World": "__init__(sheet,states) __eq__(other) __len__() states() answers(state) lead(state,step) keeps() "
+                    "broken()",
+    "machines.Machine": "__init__(sheet,points) __eq__(other) __len__() points() behind(point) marks() "
+                        "move(point,answers) goes_along(trace) shows(trace) from_point(point)",
+    "tables.Table": "__init__(sheet,begins,states) __eq__(other) __len__() begins() states() goes_along(trace) "
+                    "shows(trace) state_behind(trace)",
+    "programs.Program": "__init__(sheet,rows,procedures=None) __eq__(other) __len__() rows(name='') procedures() "
+                        "addresses() row_at(address)",
+}
+PROPERTIES = ["worlds.World", "machines.Machine", "tables.Table", "programs.Program"]
+
+
+def module(name):
+    return importlib.import_module("fourfaces." + name)
+
+
+def signature(call, leave_out=0):
+    """The name and the parameters of a function, as they are written above."""
+    parameters = list(inspect.signature(call).parameters.values())[leave_out:]
+    return f"{call.__name__}({','.join(str(parameter) for parameter in parameters)})"
+
+
+class Interface(unittest.TestCase):
+    def test_functions(self):
+        for name, told in FUNCTIONS.items():
+            for text in told.split():
+                with self.subTest(file=name, function=text):
+                    call = getattr(module(name), text.partition("(")[0])
+                    self.assertEqual(call.__module__, "fourfaces." + name)
+                    self.assertEqual(signature(call), text)
+
+    def test_classes(self):
+        for place, told in CLASSES.items():
+            name, _, title = place.partition(".")
+            kind = getattr(module(name), title)
+            self.assertEqual(kind.__module__, "fourfaces." + name)
+            for text in told.split():
+                with self.subTest(kind=title, method=text):
+                    method = vars(kind)[text.partition("(")[0]]
+                    own = len(inspect.signature(method).parameters) - (text.count(",") + (not text.endswith("()")))
+                    self.assertEqual(own, 1)
+                    if not text.startswith("__eq__"):
+                        self.assertEqual(signature(method, 1), text)
+
+    def test_made_is_a_static_method(self):
+        kind = module("machines").Machine
+        self.assertIsInstance(vars(kind)["made"], staticmethod)
+        self.assertEqual(signature(kind.made), "made(sheet,points,begin)")
+
+    def test_properties(self):
+        for place in PROPERTIES:
+            name, _, title = place.partition(".")
+            self.assertIsInstance(vars(getattr(module(name), title))["sheet"], property)
+
+
+if __name__ == "__main__":
+    unittest.main()
