@@ -1,14 +1,23 @@
 """Programs: a sheet, rows, and procedures."""
 
 from fourfaces.errors import NoProcedure, NoRow, Ring, Unknown, Wrong
-from fourfaces.rows import are_rows, bodies, names_in, paths, row_at
+from fourfaces.rows import are_rows, bodies, changed, names_in, paths, put, renamed, row_at
 from fourfaces.sheets import Sheet
 from fourfaces.words import is_name
+
+# what a leave, and an again, can be about
+TARGETS = {"leave": ("loop", "block"), "again": ("loop",)}
+SHEET_KINDS = ("cell", "ask", "step", "outcome")
 
 
 def are_procedures(thing):
     """Whether a thing is a dict from names to rows."""
     return isinstance(thing, dict) and all([is_name(name) and are_rows(thing[name]) for name in thing])
+
+
+def is_target(row, other):
+    """Whether a leave or an again, row, can be about another row around it."""
+    return other[0] in TARGETS.get(row[0], ()) and other[1] == row[1]
 
 
 def is_known(sheet, procedures, row):
@@ -23,11 +32,7 @@ def is_known(sheet, procedures, row):
 
 def is_led(row, around):
     """Whether a leave or an again has its label around it; around is a list of rows."""
-    if row[0] == "leave":
-        return any([outer[0] in ("loop", "block") and outer[1] == row[1] for outer in around])
-    if row[0] == "again":
-        return any([outer[0] == "loop" and outer[1] == row[1] for outer in around])
-    return True
+    return row[0] not in TARGETS or any([is_target(row, outer) for outer in around])
 
 
 def first_unknown(sheet, procedures, rows, around):
@@ -103,13 +108,86 @@ class Program:
         """The ascending list of the addresses of all rows."""
         return list(self._addresses)
 
-    def row_at(self, address):
-        """The row at an address."""
+    def names_in(self, kind):
+        """The ascending list of all names of a kind in its rows, those of its procedures too."""
+        return sorted(set([word for name in self._rows for word in names_in(self._rows[name], kind)]))
+
+    def _led_rows(self, address):
+        """The rows of the program, or of the procedure, that an address names, any value."""
         if not isinstance(address, tuple) or len(address) != 2:
             raise NoRow(address)
         if not isinstance(address[0], str) or address[0] not in self._rows:
             raise NoRow(address)
+        return self._rows[address[0]]
+
+    def row_at(self, address):
+        """The row at an address."""
+        rows = self._led_rows(address)
         try:
-            return row_at(self._rows[address[0]], address[1])
+            return row_at(rows, address[1])
         except NoRow:
             raise NoRow(address) from None
+
+    def around(self, address):
+        """The list of the addresses of the rows in whose bodies a row stands, the outermost first."""
+        self.row_at(address)
+        name, path = address
+        return [(name, path[:end]) for end in range(1, len(path), 2)]
+
+    def led_to(self, address):
+        """The address of the loop or block that a leave or an again is about, or None for another row."""
+        row = self.row_at(address)
+        found = [outer for outer in self.around(address) if is_target(row, self.row_at(outer))]
+        return found[-1] if found else None
+
+    def _with(self, name, rows):
+        """The Program with other rows for itself or for a procedure."""
+        found = {other: self._rows[other] for other in self._rows}
+        found[name] = rows
+        own = found.pop("")
+        return Program(self._sheet, own, found)
+
+    def with_rows(self, name, rows):
+        """The Program with other rows for itself or for a procedure, which may be a new one."""
+        if name != "" and not is_name(name):
+            raise Wrong(0)
+        if not are_rows(rows):
+            raise Wrong(1)
+        return self._with(name, rows)
+
+    def without(self, name):
+        """The Program without a procedure."""
+        if not is_name(name) or name not in self._rows:
+            raise NoProcedure(name)
+        rest = self.procedures()
+        del rest[name]
+        return Program(self._sheet, self._rows[""], rest)
+
+    def put(self, address, row):
+        """The Program with a row put in ahead of a place, which may be behind the last one of its list."""
+        rows = self._led_rows(address)
+        try:
+            rows = put(rows, address[1], row)
+        except NoRow:
+            raise NoRow(address) from None
+        return self._with(address[0], rows)
+
+    def out(self, address):
+        """The Program without the row at an address."""
+        return self.changed(address, ())
+
+    def changed(self, address, some):
+        """The Program with some rows in the place of the row at an address."""
+        self.row_at(address)
+        return self._with(address[0], changed(self._rows[address[0]], address[1], some))
+
+    def renamed(self, kind, names):
+        """The Program with other names of a kind in the place of some, in its Sheet, too."""
+        sheet = self._sheet.renamed(kind, names) if kind in SHEET_KINDS else self._sheet
+        found = {}
+        for name in self._rows:
+            rows = self._rows[name]
+            led = names.get(name, name) if kind == "call" else name
+            found[led] = rows if kind == "cell" else renamed(rows, kind, names)
+        own = found.pop("")
+        return Program(sheet, own, found)
