@@ -2,12 +2,13 @@
 
 import random
 
-from fourfaces.answers import can_be
+from fourfaces.answers import behind, can_be
 from fourfaces.errors import FaceError
 from fourfaces.laying import machine_of
 from fourfaces.machines import Machine
 from fourfaces.programs import Program
 from fourfaces.sheets import Sheet
+from fourfaces.worlds import World
 
 ERRORS = ["e", "f"]
 WORDS = ["u", "v", "w"]
@@ -152,6 +153,40 @@ def random_machine(luck, sheet, many=8):
 
 def random_leads(luck, sheet, states, later):
     return {name: (luck.choice(outcomes), luck.choice(later)) for name, _, outcomes in sheet.steps()}
+
+
+def keeping_world(luck, sheet, many=6):
+    """A world that keeps a sheet, with all answers that can be and some more states."""
+    can = can_be(sheet)
+    some = can + [luck.choice(can) for _ in range(many)]
+    states = []
+    for answers in some:
+        leads = {}
+        for name, _, outcomes in sheet.steps():
+            ends = []
+            for outcome in outcomes:
+                later = behind(sheet, answers, name, outcome)
+                ends += [(outcome, at) for at, other in enumerate(some) if other in later]
+            leads[name] = luck.choice(ends)
+        states.append((answers, leads))
+    return World(sheet, states)
+
+
+def lively_machine(luck, sheet, many=8, forward=False):
+    """A machine with few ends; with forward, one whose points lead to later ones alone."""
+    points = []
+    for at in range(many - 1):
+        kinds = ["mark", "mark"] + (["do"] * 3 if sheet.steps() else []) + (["ask"] * 3 if sheet.names() else [])
+        kind, goals = luck.choice(kinds), range(at + 1 if forward else 0, many)
+        if kind == "do":
+            name, _, outcomes = luck.choice(sheet.steps())
+            points.append(("do", name, tuple((end, luck.choice(goals)) for end in outcomes)))
+        elif kind == "ask":
+            points.append(("ask", luck.choice(sheet.names()), luck.choice(goals), luck.choice(goals)))
+        else:
+            points.append(("mark", luck.choice(WORDS), luck.choice(goals)))
+    points.append(luck.choice([("out", ("end",)), ("out", ("end",)), ("out", ("raise", "e")), ("round",)]))
+    return Machine.made(sheet, points, 0)
 
 
 class Oddity:

@@ -19,6 +19,21 @@ FUNCTIONS = {
     "alike": "pairs(one,other) are_pairs(one,other,thing) show_same(one,other) is_parting(one,other,thing) "
              "parting(one,other) alike_points(one,point,other,answers)",
     "tables": "table_of(machine) is_table_of(machine,thing) machine_from(table) least_traces(table)",
+    "playing": "played(machine,world,state) written(machine,world,state) trace_of(machine,world,state)",
+    "rings": "is_road(machine,thing) is_ring(machine,thing) is_crossing(machine,thing) doors(machine,ring) passed(machine) "
+             "leads_back(machine) door_road(machine,ring,point) crossing(machine)",
+    "leading": "tree_of(machine) is_tree_of(machine,thing)",
+    "learning": "book_of(machine,heads,tails) learned(machine) filled(machine,book) corrected(machine,book,trace) "
+                "table_led(book) is_learned(machine,thing)",
+    "runs": "is_run(machine,thing) is_beginning(machine,thing) node_of(machine,points) nodes(machine) "
+            "next_nodes(machine,node) log(machine,watch,points) runs(machine,most) run_count(machine)",
+    "watches": "tells_runs(machine,watch) tells_beginnings(machine,watch) are_sides(machine,watch,thing) "
+               "two_runs(machine,watch) two_beginnings(machine,watch) silent_round(machine,watch) sides(machine,watch)",
+    "lots": "least_telling(machine,way) greatest_silent(machine,way) needed_words(machine,way) fewest_words(machine,way)",
+    "torn": "is_torn(watch,thing) log_fits(watch,torn,log) run_fits(machine,watch,torn,run) lesser(watch,one,other)",
+    "behind": "count_runs(machine,watch,torn) least_run(machine,watch,torn) sure_points(machine,watch,torn) "
+              "can_points(machine,watch,torn) sure_rows(program,watch,torn) can_rows(program,watch,torn) "
+              "first_runs(machine,watch,torn,many) missed_run(machine,watch,torn,point)",
 }
 CLASSES = {
     "sheets.Sheet": "__init__(cells,asks,steps,facts=()) __eq__(other) cells() names() asks() steps() facts() looks(name) "
@@ -30,9 +45,12 @@ CLASSES = {
     "tables.Table": "__init__(sheet,begins,states) __eq__(other) __len__() begins() states() goes_along(trace) "
                     "shows(trace) state_behind(trace)",
     "programs.Program": "__init__(sheet,rows,procedures=None) __eq__(other) __len__() rows(name='') procedures() "
-                        "addresses() row_at(address)",
+                        "addresses() names_in(kind) row_at(address) around(address) led_to(address) with_rows(name,rows) "
+                        "without(name) put(address,row) out(address) changed(address,some) renamed(kind,names)",
+    "logbooks.LogBook": "__init__(sheet,heads,tails,shown) __eq__(other) heads() tails() traces() row(trace) gap() "
+                        "agrees(machine)",
 }
-PROPERTIES = ["worlds.World", "machines.Machine", "tables.Table", "programs.Program"]
+PROPERTIES = ["worlds.World", "machines.Machine", "tables.Table", "programs.Program", "logbooks.LogBook"]
 
 
 def module(name):

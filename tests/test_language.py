@@ -130,6 +130,64 @@ class Language(unittest.TestCase):
                 with self.subTest(file=name, kind=node.name):
                     self.assertFalse(set(methods) & stored)
 
+    def test_no_generators(self):
+        for name, text, tree in files():
+            for node in ast.walk(tree):
+                with self.subTest(file=name, line=getattr(node, "lineno", None)):
+                    self.assertNotIsInstance(node, (ast.GeneratorExp, ast.Yield, ast.YieldFrom))
+
+    def test_module_level(self):
+        """Imports, functions, classes, a docstring, and single names that are assigned plain values."""
+        for name, text, tree in files():
+            for at, node in enumerate(tree.body):
+                with self.subTest(file=name, line=node.lineno):
+                    if isinstance(node, ast.Assign):
+                        self.assertEqual([type(target) for target in node.targets], [ast.Name])
+                        ast.literal_eval(node.value)
+                    elif isinstance(node, ast.Expr):
+                        self.assertEqual(at, 0)
+                    else:
+                        self.assertIsInstance(node, (ast.ImportFrom, ast.FunctionDef, ast.ClassDef))
+
+    def test_sets_stand_where_they_may(self):
+        """Alone in sorted(..) and len(..), behind in, or assigned to a name by a statement of its own."""
+        for name, text, tree in files():
+            right = set()
+            for node in ast.walk(tree):
+                if isinstance(node, ast.Call) and isinstance(node.func, ast.Name) and node.func.id in ("sorted", "len"):
+                    right |= {id(part) for part in node.args}
+                if isinstance(node, ast.Assign) and [type(target) for target in node.targets] == [ast.Name]:
+                    right.add(id(node.value))
+            for node in ast.walk(tree):
+                is_call = isinstance(node, ast.Call) and isinstance(node.func, ast.Name) and node.func.id == "set"
+                if is_call or isinstance(node, (ast.Set, ast.SetComp)):
+                    with self.subTest(file=name, line=node.lineno):
+                        self.assertIn(id(node), right)
+
+    def test_names_of_methods_and_attributes(self):
+        taken = {part for kind in (str, int, list, dict, set, bytes, tuple) for part in dir(kind)}
+        methods, attributes = set(), set()
+        for name, text, tree in files():
+            for node in ast.walk(tree):
+                if isinstance(node, ast.ClassDef):
+                    methods |= {part.name for part in node.body if isinstance(part, ast.FunctionDef)}
+                if isinstance(node, ast.Attribute) and isinstance(node.ctx, ast.Store):
+                    attributes.add(node.attr)
+        own = {name for name in methods | attributes if not name.startswith("__")}
+        self.assertFalse(own & taken)
+        self.assertFalse(methods & attributes)
+
+    def test_methods_of_builtin_values(self):
+        """No name is sorted in place, and what is iterated over by name is not appended to on the way."""
+        for name, text, tree in files():
+            self.assertNotIn(".sort(", text)
+            for loop in [node for node in ast.walk(tree) if isinstance(node, ast.For) and isinstance(node.iter, ast.Name)]:
+                for node in ast.walk(loop):
+                    if isinstance(node, ast.Call) and isinstance(node.func, ast.Attribute):
+                        with self.subTest(file=name, line=node.lineno):
+                            own = isinstance(node.func.value, ast.Name) and node.func.value.id == loop.iter.id
+                            self.assertFalse(own and node.func.attr in ("append", "extend", "pop", "update", "clear"))
+
 
 if __name__ == "__main__":
     unittest.main()

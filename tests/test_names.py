@@ -2,18 +2,29 @@
 
 import unittest
 
+import books
+import oracle
 import samples
-from checks import forms
+from checks import forms, raised
 from fourfaces.alike import alike_points, pairs, show_same
 from fourfaces.answers import can_be, idle_facts, implied, lets
+from fourfaces.behind import can_rows, count_runs, first_runs, least_run, sure_rows
 from fourfaces.errors import TooMany
 from fourfaces.laying import machine_of, places_of, points_of
+from fourfaces.leading import is_tree_of, tree_of
+from fourfaces.learning import book_of, is_learned, learned, table_led
+from fourfaces.lots import fewest_words, greatest_silent, least_telling, needed_words
 from fourfaces.machines import Machine
+from fourfaces.playing import played, trace_of, written
 from fourfaces.programs import Program
+from fourfaces.rings import doors, leads_back, passed
 from fourfaces.rows import names_in, paths, renamed
+from fourfaces.runs import log, nodes, run_count, runs
 from fourfaces.sheets import Sheet
 from fourfaces.tables import least_traces, table_of
+from fourfaces.watches import sides, silent_round, tells_beginnings, tells_runs
 from fourfaces.ways import can_never, exits, idle_rows, known_asks, losses, lost_behind, reached
+from fourfaces.worlds import World
 
 NAMES = set("abcdefgklmnopqrstuvwxyz")
 KINDS = ("step", "outcome", "ask", "mark", "error", "stop", "call")
@@ -104,6 +115,87 @@ class Names(unittest.TestCase):
             table, turned = table_of(one), table_of(first)
             self.assertEqual([turned.begins(), turned.states()], [table.begins(), other(table.states())])
             self.assertEqual(least_traces(turned), other(least_traces(table)))
+
+    def test_programs_that_are_renamed(self):
+        for program in programs(60):
+            turned = program
+            for kind in KINDS + ("label", "cell"):
+                turned = turned.renamed(kind, {name: other(name) for name in NAMES})
+            self.assertTrue(turned == other_program(program))
+            for name, path in program.addresses():
+                first, second = program.around((name, path)), turned.around((other(name), path))
+                self.assertEqual(second, other(first))
+                self.assertEqual(turned.led_to((other(name), path)), other(program.led_to((name, path))))
+            for kind in KINDS + ("label",):
+                self.assertEqual(turned.names_in(kind), other(program.names_in(kind)))
+
+    def pairs_of_machines(self, many):
+        for seed in range(many):
+            luck = samples.dice(seed)
+            sheet = samples.random_sheet(luck, 2, 2)
+            machine = samples.lively_machine(luck, sheet, luck.choice([3, 5, 7]), seed % 2 == 0)
+            yield luck, machine, Machine(other_sheet(sheet), other(machine.points()))
+
+    def test_playing(self):
+        for luck, machine, turned in self.pairs_of_machines(60):
+            world = samples.keeping_world(luck, machine.sheet)
+            exchanged = World(turned.sheet, other(world.states()))
+            for state in range(len(world)):
+                for act in (played, written, trace_of):
+                    self.assertEqual(forms(act(turned, exchanged, state)), forms(other(act(machine, world, state))))
+
+    def test_rings_and_trees(self):
+        for luck, machine, turned in self.pairs_of_machines(60):
+            self.assertEqual([passed(turned), leads_back(turned)], [passed(machine), leads_back(machine)])
+            for point, goal in leads_back(machine):
+                if point == goal:
+                    self.assertEqual(doors(turned, [point]), doors(machine, [point]))
+            kind, rows = raised(tree_of, machine)
+            self.assertEqual(raised(tree_of, turned)[0], kind)
+            if kind == "returned":
+                self.assertIs(is_tree_of(turned, other(rows)), True)
+
+    def test_log_books(self):
+        for luck, machine, turned in self.pairs_of_machines(60):
+            heads = books.random_heads(luck, oracle.Ground(machine.sheet), machine, 4)
+            tails = books.random_tails(luck, machine.sheet, 2)
+            for book in (book_of(machine, heads, tails), learned(machine)):
+                exchanged = book_of(turned, other(book.heads()), other(book.tails()))
+                self.assertEqual(exchanged.traces(), other(book.traces()))
+                self.assertEqual([exchanged.row(other(key)) for key in book.traces()], [other(book.row(key)) for key in book.traces()])
+                self.assertEqual(exchanged.gap(), other(book.gap()) if book.gap() else None)
+                self.assertIs(is_learned(turned, exchanged), is_learned(machine, book))
+                if book.gap() is None:
+                    first, second = table_led(book), table_led(exchanged)
+                    self.assertEqual([second.begins(), second.states()], [first.begins(), other(first.states())])
+
+    def test_runs_and_watches(self):
+        for luck, machine, turned in self.pairs_of_machines(60):
+            self.assertEqual([nodes(turned), run_count(turned), runs(turned, 6)], [nodes(machine), run_count(machine), runs(machine, 6)])
+            for watch in ((), ("u",), ("v", "w")):
+                self.assertEqual(sides(turned, other(watch)), sides(machine, watch))
+                for ask in (tells_runs, tells_beginnings):
+                    self.assertIs(ask(turned, other(watch)), ask(machine, watch))
+                self.assertIs(silent_round(turned, other(watch)) is None, silent_round(machine, watch) is None)
+                for points in runs(machine, 6):
+                    self.assertEqual(log(turned, other(watch), points), other(log(machine, watch, points)))
+            for way in ("runs", "beginnings"):
+                for ask in (least_telling, greatest_silent, fewest_words, needed_words):
+                    self.assertEqual(ask(turned, way), other(ask(machine, way)))
+
+    def test_torn_logs(self):
+        watch = ("u", "v")
+        for program in programs(60):
+            machine, turned = machine_of(program), machine_of(other_program(program))
+            for torn in (["*"], ["?", "*"], ["u", "*"], ["v"], ["*", "v", "*"]):
+                exchanged = other(torn)
+                for ask in (count_runs, least_run):
+                    self.assertEqual(raised(ask, turned, other(watch), exchanged), raised(ask, machine, watch, torn))
+                self.assertEqual(first_runs(turned, other(watch), exchanged, 4), first_runs(machine, watch, torn, 4))
+                for ask in (sure_rows, can_rows):
+                    kind, told = raised(ask, program, watch, torn)
+                    wanted = (kind, other(told)) if kind == "returned" else (kind, told)
+                    self.assertEqual(raised(ask, other_program(program), other(watch), exchanged), wanted)
 
     def test_labels_may_be_exchanged_in_any_way(self):
         seen = 0
