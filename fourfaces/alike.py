@@ -1,6 +1,6 @@
 """Alike: whether two machines, or two points, show the same, and what parts them."""
 
-from fourfaces.answers import are_answers, behind_table
+from fourfaces.answers import are_answers, behind_table, can_be
 from fourfaces.errors import Unlike
 from fourfaces.machines import is_goal
 from fourfaces.refining import classes, goal_by, graph_of
@@ -50,10 +50,10 @@ class Both:
                 found.append(((first[1], outcome, later), (goal, beside, later)))
         return found
 
-    def search(self):
+    def search(self, begins):
         """How each pair is come to first, with fewer turns first, and the first one that does not agree, or None."""
-        order = self.begins()
-        former, at = {begin: None for begin in order}, 0
+        order, at = list(begins), 0
+        former = {begin: None for begin in order}
         while at < len(order):
             pair = order[at]
             if not self.agree(pair):
@@ -68,7 +68,8 @@ class Both:
 
 def pairs(one, other):
     """The least closed list of pairs, or None if there is none."""
-    former, parted = Both(one, other).search()
+    both = Both(one, other)
+    former, parted = both.search(both.begins())
     return sorted(former) if parted is None else None
 
 
@@ -88,12 +89,17 @@ def are_pairs(one, other, thing):
 
 def show_same(one, other):
     """Whether two machines show the same."""
-    return Both(one, other).search()[1] is None
+    return parting(one, other) is None
 
 
 def parting(one, other):
     """A shortest trace by which two machines show unlike things, or None if they show the same."""
-    former, parted = Both(one, other).search()
+    return parting_from(one, other, can_be(one.sheet))
+
+
+def parting_from(one, other, some):
+    """A shortest trace, begun by some answers, by which two machines show unlike things, or None."""
+    former, parted = Both(one, other).search([(0, 0, answers) for answers in some])
     return None if parted is None else trace_back(former, parted)
 
 

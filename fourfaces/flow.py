@@ -43,14 +43,20 @@ class Flow:
         return found
 
     def follow(self, task):
-        """The key to which a task comes, and the list of the losses on the way."""
-        lost, begun = [], {}
+        """The key to which a task comes, and the lists of the losses, and of the addresses come to, on the way."""
+        lost, come, begun = [], [], {}
         while task[0] != "come":
             if task[0] == "begin":
+                come.extend(self._come_to(task))
                 task = self._begin(task, begun)
             else:
                 task = self._end(task, lost, begun)
-        return task[1], lost
+        return task[1], lost, come
+
+    def _come_to(self, task):
+        """The list of the address of the row that is to be begun; it is empty behind the last row of a body."""
+        name, body, index = task[2:5]
+        return [(name, body + (index,))] if index < len(self._inner[(name, body)]) else []
 
     def _begin(self, task, begun):
         """The task behind the begin of a row, or behind the last row of a body."""

@@ -9,12 +9,12 @@ MOST = 100
 
 
 class Layout:
-    """The points of a program as they are met, with the losses on the way to each goal."""
+    """The points of a program as they are met, with what is lost, and come to, on the way to each goal."""
 
     def __init__(self, program):
         flow = Flow(program)
-        key, self._first = flow.follow(("begin", (), "", (), 0, ()))
-        self._keys, self._goals, self._lost, self._number = [key], [], [], {key: 0}
+        key, self._lost_first, self._come_first = flow.follow(("begin", (), "", (), 0, ()))
+        self._keys, self._goals, self._lost, self._come, self._number = [key], [], [], [], {key: 0}
         while len(self._goals) < len(self._keys):
             self._add_goals(flow, self._keys[len(self._goals)])
         self._program = program
@@ -23,14 +23,15 @@ class Layout:
         """Adds the goals of the next point, and those of them that are met first."""
         tasks = flow.tasks(key[1]) if key[0] == "at" else []
         ends = [flow.follow(task) for task in tasks]
-        for goal, _ in ends:
+        for goal, _, _ in ends:
             if goal not in self._number:
                 self._number[goal] = len(self._keys)
                 self._keys.append(goal)
         if len(self._keys) > MOST:
             raise TooMany(MOST)
-        self._goals.append([self._number[goal] for goal, _ in ends])
-        self._lost.append([lost for _, lost in ends])
+        self._goals.append([self._number[end[0]] for end in ends])
+        self._lost.append([end[1] for end in ends])
+        self._come.append([end[2] for end in ends])
 
     def _point(self, key):
         """The point of a key, as yet with any goals."""
@@ -52,11 +53,19 @@ class Layout:
 
     def lost_first(self):
         """The list of the losses ahead of the first point."""
-        return list(self._first)
+        return list(self._lost_first)
 
     def lost_by(self, point, at):
         """The list of the losses on the way from a point to its goal of this index."""
         return list(self._lost[point][at])
+
+    def come_first(self):
+        """The list of the addresses of the rows come to ahead of the first point, and of that point's own."""
+        return list(self._come_first)
+
+    def come_by(self, point, at):
+        """The list of the addresses of the rows come to on the way from a point to its goal of this index."""
+        return list(self._come[point][at])
 
 
 def machine_of(program):

@@ -15,13 +15,13 @@ class Net:
         self.nodes = sorted(goals)
         self.number = {node: at for at, node in enumerate(self.nodes)}
         self.lines = [[self.number[goal] for goal in goals[node]] for node in self.nodes]
-        self.start = self.number[web.first()]
-        self.stands = [web.row(node) for node in self.nodes]
-        self.outs = [row[0] == "out" for row in self.stands]
+        self.source = self.number[web.first()]
+        self.placed = [web.row(node) for node in self.nodes]
+        self.outs = [row[0] == "out" for row in self.placed]
 
     def words(self, watch):
         """For each node the word that it writes, or None."""
-        return [row[1] if row[0] == "mark" and row[1] in watch else None for row in self.stands]
+        return [row[1] if row[0] == "mark" and row[1] in watch else None for row in self.placed]
 
     def lines_out(self):
         """The lines to those nodes alone from which an exit is come to."""
@@ -35,7 +35,7 @@ class Net:
 
     def points_to(self, number):
         """The points of a shortest beginning with a node."""
-        return self.points(way_to(self.lines, [self.start], lambda at: at == number))
+        return self.points(way_to(self.lines, [self.source], lambda at: at == number))
 
 
 class Sides:

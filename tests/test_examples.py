@@ -110,6 +110,35 @@ TORN = """
 """
 
 
+FRAMES = """
+>>> from fourfaces.behind import can_points, count_runs, least_run, sure_points
+>>> from fourfaces.frames import Frame, carried, told_back
+>>> from fourfaces.laying import machine_of
+>>> from fourfaces.machines import Machine
+>>> from fourfaces.moves import Yard
+>>> from fourfaces.programs import Program
+>>> from fourfaces.sheets import Sheet
+>>> from fourfaces.torn import lesser, log_fits
+>>> from fourfaces.worlds import World
+>>> sheet = Sheet([], [("p", [])], [])
+>>> machine = machine_of(Program(sheet, (("if", "p", (("mark", "a"),), (("mark", "b"),)), ("mark", "c"))))
+>>> watch = ("a", "b", "c")
+>>> [count_runs(machine, watch, ["?", "c"]), least_run(machine, watch, ["?", "c"]), sure_points(machine, watch, ["*"]), can_points(machine, watch, ["a", "*"])]
+[2, [0, 1, 3, 4], [0, 3, 4], [0, 1, 3, 4]]
+>>> [log_fits(watch, ["*", "c"], ["a", "c"]), lesser(watch, ["?", "c"], ["*"]), lesser(watch, ["*"], ["?", "c"])]
+[True, True, False]
+>>> frame = Frame(machine, World(sheet, [((True,), {})]), 0)
+>>> [frame.go(2), frame.point(), frame.points(), frame.log(("a",)), told_back(machine, ("a",), ["a"], 3)]
+[2, 3, [0, 1, 3], ['a'], [0, 1, 3]]
+>>> other = Machine(sheet, [("out", ("end",))])
+>>> [len(carried(frame, other)), carried(frame, other)[0].point()]
+[1, 0]
+>>> yard = Yard([machine, other], [(0, 3, 1, 0)])
+>>> [yard.is_safe(), len(yard.stands()), yard.lapse(), yard.harmless(), yard.needless()]
+[True, 10, None, [(0, 3, 1, 0)], []]
+"""
+
+
 class Examples(unittest.TestCase):
     def check(self, name, text):
         example = doctest.DocTestParser().get_doctest(text, {}, name, None, 0)
@@ -135,6 +164,9 @@ class Examples(unittest.TestCase):
 
     def test_torn_and_behind(self):
         self.check("torn", TORN)
+
+    def test_frames_and_moves(self):
+        self.check("frames", FRAMES)
 
 
 if __name__ == "__main__":

@@ -34,6 +34,13 @@ FUNCTIONS = {
     "behind": "count_runs(machine,watch,torn) least_run(machine,watch,torn) sure_points(machine,watch,torn) "
               "can_points(machine,watch,torn) sure_rows(program,watch,torn) can_rows(program,watch,torn) "
               "first_runs(machine,watch,torn,many) missed_run(machine,watch,torn,point)",
+    "frames": "told_back(machine,watch,log,point) carried(frame,machine)",
+    "pieces": "pieces(program) is_piece(program,thing) rows_of(program,piece) leading_out(program,piece) "
+              "ways_of(program,piece) comes_with(program,piece) alone(program,piece)",
+    "cutting": "alike_everywhere(program,one,other) alike_here(program,one,other) stands_for(program,piece,rows) "
+               "parting_here(program,one,other) exchanged(program,piece,rows) cut_out(program,piece,name) "
+               "put_back(program,address) idle_procedures(program) pruned(program)",
+    "shared": "can_share(program,some) share_lots(program,some) fewest_lots(program,some) share(program,some,name)",
 }
 CLASSES = {
     "sheets.Sheet": "__init__(cells,asks,steps,facts=()) __eq__(other) cells() names() asks() steps() facts() looks(name) "
@@ -49,6 +56,10 @@ CLASSES = {
                         "without(name) put(address,row) out(address) changed(address,some) renamed(kind,names)",
     "logbooks.LogBook": "__init__(sheet,heads,tails,shown) __eq__(other) heads() tails() traces() row(trace) gap() "
                         "agrees(machine)",
+    "frames.Frame": "__init__(machine,world,state) machine() world() point() state() points() log(watch) answers() step() "
+                    "back() go(most) copied()",
+    "moves.Yard": "__init__(machines,moves) machines() moves() needless() harmless() stands() lapse() are_stands(thing) "
+                  "is_safe() is_lapse(thing)",
 }
 PROPERTIES = ["worlds.World", "machines.Machine", "tables.Table", "programs.Program", "logbooks.LogBook"]
 

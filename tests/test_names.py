@@ -3,23 +3,29 @@
 import unittest
 
 import books
+import cuts
 import oracle
 import samples
 from checks import forms, raised
 from fourfaces.alike import alike_points, pairs, show_same
 from fourfaces.answers import can_be, idle_facts, implied, lets
 from fourfaces.behind import can_rows, count_runs, first_runs, least_run, sure_rows
+from fourfaces.cutting import alike_everywhere, alike_here, cut_out, idle_procedures, pruned
 from fourfaces.errors import TooMany
+from fourfaces.frames import Frame, carried, told_back
 from fourfaces.laying import machine_of, places_of, points_of
 from fourfaces.leading import is_tree_of, tree_of
 from fourfaces.learning import book_of, is_learned, learned, table_led
 from fourfaces.lots import fewest_words, greatest_silent, least_telling, needed_words
 from fourfaces.machines import Machine
+from fourfaces.moves import Yard
+from fourfaces.pieces import comes_with, leading_out, pieces, ways_of
 from fourfaces.playing import played, trace_of, written
 from fourfaces.programs import Program
 from fourfaces.rings import doors, leads_back, passed
 from fourfaces.rows import names_in, paths, renamed
 from fourfaces.runs import log, nodes, run_count, runs
+from fourfaces.shared import fewest_lots, share_lots
 from fourfaces.sheets import Sheet
 from fourfaces.tables import least_traces, table_of
 from fourfaces.watches import sides, silent_round, tells_beginnings, tells_runs
@@ -196,6 +202,47 @@ class Names(unittest.TestCase):
                     kind, told = raised(ask, program, watch, torn)
                     wanted = (kind, other(told)) if kind == "returned" else (kind, told)
                     self.assertEqual(raised(ask, other_program(program), other(watch), exchanged), wanted)
+
+    def test_frames_and_yards(self):
+        for luck, machine, turned in self.pairs_of_machines(60):
+            world, watch = samples.keeping_world(luck, machine.sheet), ("u", "v")
+            frame = Frame(machine, world, 0)
+            second = Frame(turned, World(turned.sheet, other(world.states())), 0)
+            for _ in range(5):
+                self.assertEqual([second.points(), second.state()], [frame.points(), frame.state()])
+                self.assertEqual(second.log(other(watch)), other(frame.log(watch)))
+                self.assertEqual([one.point() for one in carried(second, turned)], [one.point() for one in carried(frame, machine)])
+                told = raised(told_back, machine, watch, frame.log(watch), frame.point())
+                self.assertEqual(raised(told_back, turned, other(watch), second.log(other(watch)), frame.point()), told)
+                self.assertEqual(second.go(1), frame.go(1))
+            moves = [(luck.randrange(2), luck.randrange(len(machine)), luck.randrange(2), luck.randrange(len(machine)))]
+            first, second = Yard([machine, machine], moves), Yard([turned, turned], moves)
+            self.assertEqual([second.stands(), second.needless(), second.harmless()], [first.stands(), first.needless(), first.harmless()])
+            self.assertIs(second.is_safe(), first.is_safe())
+
+    def test_pieces(self):
+        for program in programs(60):
+            turned = other_program(program)
+            some = pieces(program)
+            self.assertEqual(pieces(turned), other(some))
+            for piece in some:
+                for ask in (leading_out, ways_of, comes_with):
+                    self.assertEqual(ask(turned, other(piece)), other(ask(program, piece)))
+                kind, new = raised(cut_out, program, piece, "x")
+                second = raised(cut_out, turned, other(piece), other("x"))
+                self.assertIs(second[0], kind)
+                if kind == "returned":
+                    self.assertTrue(second[1] == other_program(new))
+                else:
+                    self.assertEqual(second[1], other(new))
+            self.assertEqual(idle_procedures(turned), other(idle_procedures(program)))
+            self.assertTrue(pruned(turned) == other_program(pruned(program)))
+            few = cuts.apart(program, some)[:4]
+            self.assertEqual(share_lots(turned, other(few)), share_lots(program, few))
+            self.assertEqual(fewest_lots(turned, other(few)), fewest_lots(program, few))
+            for piece in few:
+                self.assertIs(alike_everywhere(turned, other(piece), other(few[0])), alike_everywhere(program, piece, few[0]))
+                self.assertIs(alike_here(turned, other(piece), other(few[0])), alike_here(program, piece, few[0]))
 
     def test_labels_may_be_exchanged_in_any_way(self):
         seen = 0
