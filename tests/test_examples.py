@@ -1,4 +1,4 @@
-"""The examples that stand in the document for the files that are there so far."""
+"""The examples that stand in the document for its files."""
 
 import doctest
 import unittest

@@ -1,4 +1,4 @@
-"""The names, arguments and places of the interface, as far as it is asked for so far."""
+"""The names, arguments and places of the interface."""
 
 import importlib
 import inspect
@@ -40,6 +40,11 @@ FUNCTIONS = {
     "cutting": "alike_everywhere(program,one,other) alike_here(program,one,other) stands_for(program,piece,rows) "
                "parting_here(program,one,other) exchanged(program,piece,rows) cut_out(program,piece,name) "
                "put_back(program,address) idle_procedures(program) pruned(program)",
+    "notation": "show_sheet(sheet) show_rows(rows) show_program(program) show_machine(machine) show_trace(trace)",
+    "mending": "kind_of(line) closes(text) is_mend(text,thing) is_floor(text,thing) cost(mend) fewest(text) mend(text) "
+               "mended(text,mend) floor(text)",
+    "readers": "read_sheet(text) read_rows(text) read_program(sheet,text) read_machine(sheet,text) read_trace(text)",
+    "versions": "is_deed(thing) version_behind(program,deed)",
     "shared": "can_share(program,some) share_lots(program,some) fewest_lots(program,some) share(program,some,name)",
 }
 CLASSES = {
@@ -60,6 +65,9 @@ CLASSES = {
                     "back() go(most) copied()",
     "moves.Yard": "__init__(machines,moves) machines() moves() needless() harmless() stands() lapse() are_stands(thing) "
                   "is_safe() is_lapse(thing)",
+    "book.Book": "__init__(program) __eq__(other) __len__() do(deed) undo() redo() program() machine() log() shown_alike() "
+                 "past(many) start(world,state) frame() go(most) copied() trial(act)",
+    "desk.Desk": "__init__(program) execute(text) book()",
 }
 PROPERTIES = ["worlds.World", "machines.Machine", "tables.Table", "programs.Program", "logbooks.LogBook"]
 
