@@ -1,11 +1,10 @@
 """Desk: a book that is asked, and changed, by texts."""
 
 from fourfaces.book import Book
-from fourfaces.errors import NoCommand, NoText, Wrong
+from fourfaces.errors import NoCommand, NoText
 from fourfaces.laying import machine_of
 from fourfaces.mending import fewest
 from fourfaces.notation import exit_text, show_machine, show_program, show_sheet, truth_word
-from fourfaces.programs import Program
 from fourfaces.readers import is_number, is_text, read_rows
 from fourfaces.versions import is_renaming
 from fourfaces.watches import tells_beginnings, tells_runs
@@ -107,8 +106,6 @@ class Desk:
     """A Book that is kept, and changed by texts."""
 
     def __init__(self, program):
-        if not isinstance(program, Program):
-            raise Wrong(0)
         self._book = Book(program)
 
     def execute(self, text):

@@ -11,13 +11,12 @@ from fourfaces.words import is_integer
 
 
 def body_of(program, address):
-    """The rows of the body in which an address, any value, has its row, or None for no such address."""
+    """The rows of the body to which an address, any value, leads, or None if it leads to none."""
     if not isinstance(address, tuple) or len(address) != 2 or not isinstance(address[0], str):
         return None
     if address[0] != "" and address[0] not in program.procedures():
         return None
-    body = body_at(program.rows(address[0]), address[1])
-    return body if body is not None and address[1][-1] < len(body) else None
+    return body_at(program.rows(address[0]), address[1])
 
 
 def pieces(program):

@@ -1,7 +1,7 @@
 """Shared: pieces for which one procedure can stand."""
 
 from fourfaces.alike import parting_from
-from fourfaces.errors import Crosses, Ring, TooMany, Twice, Unlike
+from fourfaces.errors import Crosses, Ring, Twice, Unlike
 from fourfaces.laying import machine_of
 from fourfaces.leading import label_of
 from fourfaces.pieces import by_itself, coming, leading_out, rows_of
@@ -153,26 +153,15 @@ def with_calls(program, some, name, rows):
     return Program(program.sheet, first, found)
 
 
-def ringless(program, some, name, ways):
-    """The list of the Programs with calls of a new procedure, for those of several rows for it that make no ring."""
-    found = []
+def first_ringless(program, some, name, ways):
+    """The Program with calls of a new procedure, for the first one of several rows for it that makes no ring."""
     for rows in ways:
         try:
-            found.append(with_calls(program, some, name, rows))
+            return with_calls(program, some, name, rows)
         except Ring:
             continue
-    return found
-
-
-def first_laid(programs):
-    """The first one of some Programs that has a machine; if none has one, the first one."""
-    for program in programs:
-        try:
-            machine_of(program)
-            return program
-        except TooMany:
-            continue
-    return programs[0]
+    # all make rings, so that of the first one tells which procedure stands in one
+    return with_calls(program, some, name, ways[0])
 
 
 def share(program, some, name):
@@ -187,6 +176,4 @@ def share(program, some, name):
         raise Unlike()
     fitting = pieces.fitting()
     ways = [pieces.joined(chosen, fitting) for chosen in choices(pieces, fitting)]
-    made = ringless(program, some, name, ways)
-    # where all make rings, the first one tells by its error which procedure stands in one
-    return first_laid(made) if made else with_calls(program, some, name, ways[0])
+    return first_ringless(program, some, name, ways)

@@ -45,6 +45,14 @@ def random_sheet(luck, most_asks=3, most_steps=3, most_facts=3, living=True):
             return sheet
 
 
+def still_sheet(luck):
+    """A sheet no step of which puts a cell at which an ask looks."""
+    asks = [("p", ["c"]), ("q", [])][:luck.randint(0, 2)]
+    steps = [(name, ["d"], ["a", "b", "o"][:luck.randint(1, 3)]) for name in ["s", "t", "x"][:luck.randint(1, 3)]]
+    facts = [("after", "s", "a", "p", True)] if asks and len(steps[0][2]) > 1 and luck.random() < 0.3 else []
+    return Sheet(["c", "d"], asks, steps, facts)
+
+
 class Grower:
     """Grows rows of a program at random."""
 

@@ -141,6 +141,7 @@ class Deeds(unittest.TestCase):
         second = Book(version_behind(PROGRAM, PUT))
         self.assertTrue(second.program() == one.program())
         self.assertIs(second == one, False)
+        self.assertIs(second == Book(PROGRAM), False)
         self.assertIs(one != other, False)
         for thing in samples.ODDITIES + [PROGRAM]:
             self.assertIs(one == thing, False)

@@ -183,7 +183,7 @@ class NoCommands(unittest.TestCase):
         for text in ("out", "out -", "out - ", "out 0", "out - 00", "out - 01", "out - 0.", "out - .0", "out - 0..1", "out - 0 1", "out - -1", "out - 1000000000",
                      "out - 0.0000000000", "out N 0", "out n1 0", "out  - 0", "out - a", "out - 0.a", "out -n 0", "out  0", "without", "without -", "without N",
                      "without n n", "without  n", "renamed", "renamed mark u", "renamed mark u v w", "renamed marks u v", "renamed mark U v", "renamed mark u -",
-                     "renamed rows u v", "tells", "tells ", "tells runs ", "tells runs u ", "tells runs v u", "tells runs u u", "tells runs U", "tells all u",
+                     "renamed rows u v", "rename mark u v", "name label l k", "tells", "tells ", "tells runs ", "tells runs u ", "tells runs v u", "tells runs u u", "tells runs U", "tells all u",
                      "tells  runs", "tells runs  u", "Tells runs", "tells beginnings b a", "tells beginnings -", "Program", "program ", "exit", "", " ", "done",
                      "mend u", "fact never p yes", "log", "machine 0", "points 1", "text a", "undo 1", "sheet sheet", "put", "rows"):
             self.refuse(text)

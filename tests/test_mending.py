@@ -131,7 +131,7 @@ class Kinds(unittest.TestCase):
                      "block l": "open", "try": "try", "catch": "catch", "catch e": "catch", "catch e f": "catch", "always": "always", "end": "end"})
         for line, kind in told.items():
             self.assertEqual(kind_of(line), kind, line)
-        for line in texts.ODD_LINES + ["do", "mark", "do s of of", "do S", "do s OF", "else ", " end", "end\n", "", "program", "procedure n", "block",
+        for line in texts.ODD_LINES + ["do", "mark", "do s of of", "mark u of", "if p of", "do S of", "do s1 of", "do S", "do s OF", "else ", " end", "end\n", "", "program", "procedure n", "block",
                                        "case", "if p q", "try e", "raise", "cell c", "Mark w", "mark w1", "catch E", "catch  e", "catch e "]:
             if line not in ("do of", "do of of", "catch f e", "catch e e"):
                 self.assertIsNone(kind_of(line), line)
@@ -309,7 +309,8 @@ class Floors(unittest.TestCase):
         self.assertIs(is_floor("", {**found, ("end", 0, 0): True}), False)
         self.assertIs(is_floor("", {**found, ("rows", 0, 0): False}), False)
         rest = {key: found[key] for key in found if key != ("rows", 0, 0)}
-        self.assertIs(is_floor("", {**rest, ("rows", False, 0): 0}), False)
+        for key in (("rows", False, 0), ("rows", 0, False), ("rows", False, False)):
+            self.assertIs(is_floor("", {**rest, key: 0}), False)
         self.assertIs(is_floor("", {**rest, ("rows", 0, 0): 0}), True)
 
     def test_no_floor_tells_more_than_it_costs(self):

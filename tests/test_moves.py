@@ -118,6 +118,8 @@ class Yards(unittest.TestCase):
             told().reverse()
         self.assertEqual(yard.moves(), [(0, 1, 1, 0), (0, 3, 1, 0)])
         self.assertEqual([len(yard.machines()), len(yard.stands()), yard.needless()], [2, 10, []])
+        many = [(0, point, 0, goal) for goal in range(5) for point in (4, 2, 0, 3, 1)]
+        self.assertEqual(Yard([FORK], many).moves(), sorted(many))
         tuples = Yard((FORK, OTHER), ((0, 3, 1, 0),))
         self.assertEqual([tuples.moves(), len(tuples.machines())], [[(0, 3, 1, 0)], 2])
         self.assertIsInstance(tuples.machines(), list)
@@ -205,6 +207,7 @@ class Yards(unittest.TestCase):
             self.assertEqual(forms(yard.stands()), forms(None if wrong else sorted(found)))
             lapse = yard.lapse()
             self.assertEqual(lapse is None, not wrong)
+            self.assertIs(yard.are_stands(sorted(come)), not wrong)
             if wrong:
                 self.assertEqual(len(lapse), min(wrong) + 1)
                 self.assertTrue(is_lapse(machines, moves, lapse))

@@ -132,6 +132,12 @@ class Pieces(unittest.TestCase):
         self.assertEqual(ways_of(program, (("", (0,)), 1)), [])
         self.assertEqual(ways_of(program, (("", (0, 0, 1)), 1)), [("on",), ("raise", "e")])
 
+    def test_an_error_that_is_called_like_a_word(self):
+        rows = (("loop", "l", (("if", "p", (("leave", "l"),), ()), ("if", "p", (), (("raise", "wa"),)))),)
+        program = Program(SHEET, rows)
+        self.assertEqual(list(alone(program, (("", (0, 0, 0)), 2))[1]), ["wa"])
+        self.assertEqual(ways_of(program, (("", (0, 0, 0)), 2)), [("leave", "l"), ("raise", "wa")])
+
     def test_ways_wait_for_always(self):
         rows = (("loop", "l", (("try", (("leave", "l"),), (), (("if", "p", (("again", "l"),), ()),)), ("mark", "u"))),)
         program = Program(SHEET, rows)

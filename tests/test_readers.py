@@ -230,7 +230,7 @@ class Others(unittest.TestCase):
 
     def test_texts_of_no_trace(self):
         wrong = ["at yes\ns ok\n", "at\ns ok yes\n", "at yes\ns ok yes yes\n", "at true\n", "at Yes\n", "at yes \n", " at yes\n", "yes\n", "\n", "at\n\n",
-                 "at\ns\n", "at yes\ns yes\n", "at\nS ok\n", "at\ns  ok\n", "at yes\ns ok 1\n", "at  yes\n", "at\nat\n", "to yes\n", "s ok yes\nat yes\n"]
+                 "at\ns\n", "at yes\ns yes\n", "at\nS ok\n", "at\ns OK\n", "at\ns abcdefghi\n", "at\ns  ok\n", "at yes\ns ok 1\n", "at  yes\n", "at\nat\n", "to yes\n", "s ok yes\nat yes\n"]
         for text in wrong:
             self.assertEqual(raised(read_trace, text), told(text.count("\n")), text)
 

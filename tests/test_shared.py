@@ -8,7 +8,7 @@ import samples
 from checks import forms, is_just, raised
 from fourfaces.alike import show_same
 from fourfaces.cutting import alike_here, stands_for
-from fourfaces.errors import Crosses, Ring, Twice, Unlike
+from fourfaces.errors import Crosses, Ring, TooMany, Twice, Unlike
 from fourfaces.laying import machine_of
 from fourfaces.pieces import comes_with, leading_out, pieces
 from fourfaces.programs import Program
@@ -115,6 +115,23 @@ class Sharing(unittest.TestCase):
         self.assertIs(can_share(program, pair), True)
         self.assertEqual(raised(share, program, pair, "x"), (Ring, {"name": "n"}))
         self.assertEqual(raised(share, program, pair, "a"), (Ring, {"name": "a"}))
+
+    def test_rows_that_make_no_ring(self):
+        rows = (STEP, ("stop", "w"), STEP, ("mark", "u"), ("mark", "v"), ("stop", "w"))
+        program = Program(SHEET, (("call", "n"),), {"n": rows})
+        pair = [(("", (0,)), 1), (("n", (2,)), 4)]
+        for some in (pair, pair[::-1]):
+            new = share(program, some, "x")
+            self.assertEqual([new.rows(), new.rows("n"), new.rows("x")], [(("call", "x"),), rows[:2] + (("call", "x"),), rows[2:]])
+
+    def test_more_points_than_a_machine_may_have(self):
+        sheet = Sheet(["c"], [("p", ["c"])], [("s", ["c"], ["ok"])], [("never", (("p", True),))])
+        rows = (STEP,) * 15 + (("if", "p", tuple(("block", "k", (("mark", "u"),)) for _ in range(7)), ()),)
+        program = Program(sheet, rows)
+        some = [(("", (0,)), 15)] + [(("", (15, 0, at)), 1) for at in range(7)]
+        new = share(program, some, "x")
+        self.assertEqual([new.rows("x"), len(new)], [(STEP,) * 15, 24])
+        self.assertEqual(raised(machine_of, new), (TooMany, {"most": 100}))
 
     def test_eight_pieces(self):
         program = Program(SHEET, (STEP, OTHER) * 4)

@@ -179,6 +179,8 @@ class Behind(unittest.TestCase):
             self.assertTrue(version_behind(behind, ("renamed", kind, new, elder)) == PROGRAM)
         # a name of the sheet alone, and a procedure that nothing calls
         self.assertEqual(version_behind(Program(SHEET, ()), ("renamed", "step", "s", "t")).sheet.steps()[0][0], "t")
+        self.assertEqual(version_behind(Program(SHEET, ()), ("renamed", "ask", "p", "q")).sheet.names(), ["q"])
+        self.assertEqual(version_behind(Program(SHEET, ()), ("renamed", "outcome", "ok", "x")).sheet.outcomes("s"), ["bad", "x"])
         self.assertEqual(version_behind(Program(SHEET, (), {"n": ()}), ("renamed", "call", "n", "m")).procedures(), {"m": ()})
 
     def test_random_deeds_of_the_tree(self):
@@ -194,14 +196,6 @@ class Behind(unittest.TestCase):
                     self.assertEqual(kind == "returned", other == "returned")
                     if kind == "returned":
                         self.assertTrue(new == wanted)
-
-
-def still_sheet(luck):
-    """A sheet no step of which puts a cell at which an ask looks."""
-    asks = [("p", ["c"]), ("q", [])][:luck.randint(0, 2)]
-    steps = [(name, ["d"], ["a", "b", "o"][:luck.randint(1, 3)]) for name in ["s", "t", "x"][:luck.randint(1, 3)]]
-    facts = [("after", "s", "a", "p", True)] if asks and len(steps[0][2]) > 1 and luck.random() < 0.3 else []
-    return Sheet(["c", "d"], asks, steps, facts)
 
 
 def branching_machine(luck, many):
@@ -241,7 +235,7 @@ class Logs(unittest.TestCase):
         crossed = 0
         for seed in range(250):
             luck = samples.dice(seed)
-            sheet = still_sheet(luck)
+            sheet = samples.still_sheet(luck)
             if seed % 2 == 0:
                 machine = samples.lively_machine(luck, sheet, luck.randint(2, 8))
             else:
