@@ -81,9 +81,10 @@ def stops_for(some, taken):
 
 def by_itself(program, rows, stops):
     """The Program of rows by themselves, each leave and again that leads out being a stop."""
+    closed = rows
     for path, row in led_out(rows):
-        rows = changed(rows, path, (stops[row],))
-    return Program(program.sheet, rows, program.procedures())
+        closed = changed(closed, path, (stops[row],))
+    return Program(program.sheet, closed, program.procedures())
 
 
 def alone(program, piece):
